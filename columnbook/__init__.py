@@ -1,0 +1,1 @@
+"""Columnbook: texts set in columns, cut and filled up, and read back."""
